@@ -110,8 +110,9 @@ func TestParsePaletteNumbers(t *testing.T) { // P8.2, every number of one to thr
 				wantNone(t, s)
 			}
 		}
+	}
+	for n := range 10000 {
 		wantNone(t, fmt.Sprintf("4;%04d;rgb:12/34/56", n))
-		wantNone(t, fmt.Sprintf("4;%d;rgb:12/34/56", n+1000))
 		wantNone(t, fmt.Sprintf("4;%05d;rgb:12/34/56", n))
 	}
 	for _, digits := range []string{
